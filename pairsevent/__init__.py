@@ -1,0 +1,1 @@
+"""An event of pairs at cards: see pairsevent.desk.answers."""

@@ -1,0 +1,15 @@
+"""The numbers by which a call is refused."""
+
+OUT_OF_RANGE = -1
+NO_EVENT = -3
+HAS_ENTRIES = -4
+NO_SUCH_PAIR = -5
+ROUND_TAKEN = -6
+BOARD_TAKEN = -7
+HAVE_MET = -8
+FULL = -9
+NO_SUCH_BOARD = -10
+NOT_GIVEN = -11
+UNDER_APPEAL = -12
+NO_ENTRY = -13
+NOT_UNDER_APPEAL = -14
