@@ -2,7 +2,7 @@
 
 from pairsevent.contract import north_south_score
 from pairsevent.event import ArtificialEntry, RealEntry, is_given
-from pairsevent.forms import APPEAL, AVERAGE, FOUL, PASSED, PLAYED, REMOVE, RULING, outcomes_of
+from pairsevent.forms import APPEAL, AVERAGE, FOUL, PASSED, PLAYED, REMOVE, RESULT, RULING, outcomes_of
 from pairsevent.refusals import NO_ENTRY, NOT_GIVEN, NOT_UNDER_APPEAL, UNDER_APPEAL
 
 
@@ -53,7 +53,9 @@ def set_group(event, place, group):
 def carry_out(event, call, place):
     if call.number == PLAYED:
         return [0, enter_played(event, place, call.plain)]
-    if call.number == PASSED:
+    if call.number == RESULT:
+        enter_result(event, place, outcomes_of(call.row))
+    elif call.number == PASSED:
         enter_result(event, place, [(1, 0)])
     elif call.number == AVERAGE:
         enter_average(event, place, call.plain[3], call.plain[4])
@@ -65,8 +67,6 @@ def carry_out(event, call, place):
         event.appeals.append(place)
     elif call.number == RULING:
         event.appeals.remove(place)
-        enter_result(event, place, outcomes_of(call.row))
-    else:
         enter_result(event, place, outcomes_of(call.row))
     return [0]
 
