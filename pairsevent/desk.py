@@ -2,9 +2,12 @@
 
 from pairsevent.entries import place_answer
 from pairsevent.event import Event, is_pair
-from pairsevent.forms import ADJUST, NEW, SIT, UNSIT, is_in_range, read_calls
+from pairsevent.forms import ADJUST, NEW, POSTED, RULING, SHEET, SIT, UNSIT, is_in_range, read_calls
+from pairsevent.listing import listing_answer
 from pairsevent.refusals import NO_EVENT, NO_SUCH_PAIR, OUT_OF_RANGE
 from pairsevent.seating import sit, unsit
+from pairsevent.sheets import board_answer
+from pairsevent.standing import standing_answer
 
 # What the event counts as its changes: an appeal by itself is none.
 CALLS_THAT_CHANGE = (3, 4, 5, 6, 7, 8, 9, 11)
@@ -26,13 +29,20 @@ def adjust(event, call):
 
 
 def event_answer(event, call):
+    """The answer to any call but new, by the file that looks after it."""
     if call.number == SIT:
         return sit(event, call)
     if call.number == UNSIT:
         return unsit(event, call)
     if call.number == ADJUST:
         return adjust(event, call)
-    return place_answer(event, call)
+    if call.number <= RULING:
+        return place_answer(event, call)
+    if call.number <= POSTED:
+        return standing_answer(event, call)
+    if call.number <= SHEET:
+        return board_answer(event, call)
+    return listing_answer(event, call)
 
 
 def counted_answer(event, call):

@@ -4,6 +4,7 @@ from pairsevent.contract import north_south_score
 from pairsevent.event import ArtificialEntry, RealEntry, is_given
 from pairsevent.forms import APPEAL, AVERAGE, FOUL, PASSED, PLAYED, REMOVE, RESULT, RULING, outcomes_of
 from pairsevent.refusals import NO_ENTRY, NOT_GIVEN, NOT_UNDER_APPEAL, UNDER_APPEAL
+from pairsevent.sheets import reckon
 
 
 def place_of(call):
@@ -77,4 +78,6 @@ def place_answer(event, call):
     refusal = place_refusal(event, call.number, place)
     if refusal != 0:
         return [refusal]
-    return carry_out(event, call, place)
+    answer = carry_out(event, call, place)
+    reckon(event, place[2])
+    return answer

@@ -2,15 +2,21 @@
 
 
 class Event:
-    """Entries are kept by their place: a round, a table and a board. Who was never adjusted has no adjustment."""
+    """Entries are kept by their place: a round, a table and a board. Who was never adjusted has no adjustment.
+
+    Sheets are kept by their board, as they are reckoned whenever one of its entries changes; a board at which nothing
+    was ever entered has none. Posted standings are kept as the numbers that are told of them.
+    """
 
     def __init__(self, pairs, boards):
         self.pairs = pairs
         self.boards = boards
         self.sittings = []
         self.entries = {}
+        self.sheets = {}
         self.adjustments = {}
         self.appeals = []
+        self.posted = []
         self.changes = 0
 
 
@@ -43,6 +49,25 @@ class ArtificialEntry:
         self.ew_per_cent = ew_per_cent
 
 
+class Sheet:
+    """A board's top, its lines in their order, and the matchpoints that it brings, by pair."""
+
+    def __init__(self, top):
+        self.top = top
+        self.lines = []
+        self.brought = {}
+
+
+class SheetLine:
+    """What a sheet tells of one entry: the two pairs of its place, its group, north and south's matchpoints."""
+
+    def __init__(self, ns, ew, group, points):
+        self.ns = ns
+        self.ew = ew
+        self.group = group
+        self.points = points
+
+
 def sitting_at(event, round_number, table):
     """The sitting of this round and table, or None."""
     for sitting in event.sittings:
@@ -64,3 +89,7 @@ def has_entries(event):
 
 def is_pair(event, pair):
     return pair <= event.pairs
+
+
+def is_board(event, board):
+    return board <= event.boards

@@ -12,6 +12,16 @@ REMOVE = 8
 ADJUST = 9
 APPEAL = 10
 RULING = 11
+TOTAL = 12
+STANDINGS = 13
+POST = 14
+POSTED = 15
+SCORE = 16
+SHEET = 17
+MET = 18
+SITTINGS = 19
+MISSING = 20
+CHANGES = 21
 
 # For each call the first and the last number that each of its plain arguments may be.
 RANGES = {
@@ -27,6 +37,17 @@ RANGES = {
     9: ((1, 40), (-100000, 100000)),
     10: ((1, 40), (1, 20), (1, 40)),
     11: ((1, 40), (1, 20), (1, 40)),
+    12: ((1, 40),),
+    13: (),
+    14: (),
+    15: ((1, 50),),
+    16: ((1, 40), (1, 40)),
+    17: ((1, 40),),
+    18: ((1, 40), (1, 40)),
+    19: ((1, 40),),
+    20: (),
+    21: (),
+    22: (),
 }
 
 CALLS_WITH_ROW = (3, 11)

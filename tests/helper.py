@@ -53,6 +53,50 @@ def ruling(round_number, table, board, outcomes):
     return [11, round_number, table, board, len(outcomes)] + outcomes
 
 
+def total(pair):
+    return [12, pair]
+
+
+def standings():
+    return [13]
+
+
+def post():
+    return [14]
+
+
+def posted(k):
+    return [15, k]
+
+
+def score(board, pair):
+    return [16, board, pair]
+
+
+def sheet(board):
+    return [17, board]
+
+
+def met(p, q):
+    return [18, p, q]
+
+
+def sittings(pair):
+    return [19, pair]
+
+
+def missing():
+    return [20]
+
+
+def changes():
+    return [21]
+
+
+def appeals():
+    return [22]
+
+
 def line(calls):
     return [number for call in calls for number in call]
 
@@ -90,3 +134,20 @@ def round_robin(rounds):
         for table, (ns, ew) in enumerate(couples, start=1):
             calls.append(sit(turn + 1, table, ns, ew, turn + 1, 1))
     return calls
+
+
+def mitchell(tables, rounds, boards):
+    """Sittings of so many rounds, in each of which all tables play the same boards."""
+    return [sit(turn + 1, table + 1, table + 1, tables + 1 + (table + turn) % tables, turn * boards + 1, boards)
+            for turn in range(rounds) for table in range(tables)]
+
+
+def asks(pairs, boards):
+    """Every call that only asks, of every pair and board that there is, and of the ones behind."""
+    over_pairs = range(1, pairs + 2)
+    over_boards = range(1, boards + 2)
+    calls = [call(pair) for pair in over_pairs for call in (total, sittings)]
+    calls += [sheet(board) for board in over_boards]
+    calls += [score(board, pair) for board in over_boards for pair in over_pairs]
+    calls += [met(p, q) for p in over_pairs for q in over_pairs]
+    return calls + [standings(), missing(), changes(), appeals(), posted(1), posted(2), posted(3)]

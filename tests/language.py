@@ -33,6 +33,7 @@ WALKED_METHODS = set("items keys values".split())
 WALKERS = set("list tuple dict sorted sum any all enumerate zip min max".split())
 KEYWORDS = {"sorted": {"key", "reverse"}, "min": {"key", "default"}, "max": {"key", "default"}, "sum": {"start"},
             "enumerate": {"start"}, "zip": {"strict"}}
+KEYS = set("len int str abs sum min max tuple".split())
 STATEMENTS = (ast.Assign, ast.AugAssign, ast.If, ast.While, ast.For, ast.Return, ast.Break, ast.Continue, ast.Pass,
               ast.Raise, ast.Expr, ast.FunctionDef, ast.ClassDef, ast.ImportFrom)
 EXPRESSIONS = (ast.Constant, ast.List, ast.Tuple, ast.Dict, ast.BinOp, ast.UnaryOp, ast.Compare, ast.BoolOp, ast.IfExp,
@@ -286,8 +287,14 @@ def check_calls(tree):
             told = {keyword.arg for keyword in node.keywords}
             if (name in PYTHON_NAMES or called_method(node) in METHODS) and told - KEYWORDS.get(name, set()):
                 yield "L22", node.lineno, "a keyword"
+            if any(keyword.arg == "key" and not is_key(keyword.value, defined) for keyword in node.keywords):
+                yield "L22", node.lineno, "a key that is no own def, lambda or name of Python's own"
             if (name in WALKED or called_method(node) in WALKED_METHODS) and not is_walked(node, parent):
                 yield "L23", node.lineno, "not walked on the spot"
+
+
+def is_key(node, defined):
+    return isinstance(node, ast.Lambda) or (isinstance(node, ast.Name) and node.id in KEYS | defined)
 
 
 def is_walked(node, parent):
@@ -359,6 +366,15 @@ def check_cycles(draws):
         if name in reached:
             findings.append(("L16", 1, f"{name} draws from itself"))
     return findings
+
+
+def check_drawn_classes(texts):
+    """A class that is drawn from another file is not kept, handed on or shown there either."""
+    trees = {name: ast.parse(text) for name, text in texts.items()}
+    classes = {node.name for tree in trees.values() for node in tree.body if isinstance(node, ast.ClassDef)}
+    return [("L18", node.lineno, f"{name}: {node.id}") for name, tree in trees.items()
+            for node, parent in walk_with_parents(tree)
+            if isinstance(node, ast.Name) and node.id in classes and not is_use_of_a_class(node, parent)]
 
 
 def check_methods_and_values(texts):

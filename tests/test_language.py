@@ -4,7 +4,7 @@ import pathlib
 import unittest
 
 import pairsevent
-from tests.language import check_file, check_folder, check_imports, check_methods_and_values
+from tests.language import check_drawn_classes, check_file, check_folder, check_imports, check_methods_and_values
 
 FOLDER = pathlib.Path(pairsevent.__file__).parent
 
@@ -51,6 +51,7 @@ SENT_BACK = [
     ("L21", "def f(a: int):\n    return a\n"),
     ("L22", "def f(a):\n    b = len\n    return b(a)\n"),
     ("L22", "def f(a):\n    return int(a, base=2)\n"),
+    ("L22", "def f(a, b):\n    return sorted(a, key=b)\n"),
     ("L23", "def f(a):\n    b = range(a)\n    return b\n"),
     ("L23", "def f(a):\n    for b in a:\n        a.append(b)\n"),
     ("L25", "def f(a):\n    a.sort()\n"),
@@ -74,6 +75,9 @@ class Package(unittest.TestCase):
 
     def test_imports(self):
         self.assertEqual(check_imports(package_texts()), [])
+
+    def test_drawn_classes(self):
+        self.assertEqual(check_drawn_classes(package_texts()), [])
 
     def test_methods_and_values(self):
         self.assertEqual(check_methods_and_values(package_texts()), [])
@@ -102,6 +106,10 @@ class Finder(unittest.TestCase):
         ):
             self.assertIn(rule, [finding[0] for finding in check_imports(texts)], texts)
         self.assertIn("L3", [finding[0] for finding in check_file("import os\n")])
+
+    def test_drawn_classes_that_are_sent_back(self):
+        texts = {"a": "class A:\n    pass\n", "b": "from pairsevent.a import A\n\n\ndef f():\n    return [A]\n"}
+        self.assertEqual(check_drawn_classes(texts), [("L18", 5, "b: A")])
 
     def test_names_that_are_sent_back(self):
         self.assertIn("L1", [finding[0] for finding in check_folder(["__init__.py", "notes.txt"])])

@@ -20,6 +20,12 @@ FORMS = {
     9: ([PAIR, (-100000, 100000)], []),
     10: (PLACE, []),
     11: (PLACE, [2, 1, 50]),
+    12: ([PAIR], []),
+    15: ([(1, 50)], []),
+    16: ([BOARD, PAIR], []),
+    17: ([BOARD], []),
+    18: ([PAIR, PAIR], []),
+    19: ([PAIR], []),
 }
 
 
@@ -63,6 +69,21 @@ class Ranges(unittest.TestCase):
                 for value in ranges[at]:
                     call = with_number(number, at, value)
                     self.assertEqual(ask(*seated, call)[3][0], 0, call)
+
+    def test_calls_without_arguments(self):
+        for number in (13, 14, 20, 21, 22):
+            self.assertEqual(ask([number], [number], new(), [number])[:3], [[-3], [-3], [0]])
+            self.assertEqual(ask(new(), [number])[1][0], 0)
+
+    def test_arguments_that_are_asked_at_the_edges(self):
+        seated = [new(), sit(1, 1, 1, 2, 1, 40), sit(2, 2, 39, 40, 1, 40), passed(1, 1, 1), passed(2, 2, 40)]
+        for number in (12, 17, 18, 19):
+            for at in range(len(FORMS[number][0])):
+                for value in (1, 40):
+                    call = with_number(number, at, value)
+                    self.assertEqual(ask(*seated, call)[5][0], 0, call)
+        self.assertEqual(ask(*seated, [16, 1, 1], [16, 40, 40])[5:], [[0, 0, 1], [0, 0, 1]])
+        self.assertEqual(ask(new(), *[[14]] * 50, [15, 1], [15, 50])[51:], [[0], [0]])
 
     def test_out_of_range_is_no_event(self):
         for number, at, low, high in arguments():
